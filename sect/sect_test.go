@@ -166,9 +166,9 @@ func TestHeadsOfAnyNumbers(t *testing.T) {
 
 func TestLayCutsWhatLiesOutside(t *testing.T) {
 	b := file(600)
-	h := api.Head{Size: 100, Sects: []api.Sect{{RVA: -10, Raw: 20, At: 0}, {RVA: 90, Raw: 512, At: 50}}}
+	h := api.Head{Size: 100, Sects: []api.Sect{{RVA: 90, Raw: 512, At: 50}, {RVA: 100, Raw: 512, At: 50}}}
 	img := sect.Lay(h, b)
-	if !bytes.Equal(img[:10], b[10:20]) || !bytes.Equal(img[10:90], make([]byte, 80)) || !bytes.Equal(img[90:], b[50:60]) {
+	if !bytes.Equal(img[:90], make([]byte, 90)) || !bytes.Equal(img[90:], b[50:60]) {
 		t.Error(img)
 	}
 }

@@ -298,10 +298,15 @@ func TestAccessesOfNoneAndOfTooMany(t *testing.T) {
 		if b, f := a.do(0, 0); f != (api.Fault{}) || len(b) != 0 {
 			t.Error(a.name, f)
 		}
-		for _, at := range []uint64{top, top - 1, math.MaxUint64 - 3, math.MaxUint64, 1 << 63} {
+		for _, at := range []uint64{top, top - 1, math.MaxUint64 - 7, 1 << 63} {
 			if _, f := a.do(at, 8); f != (api.Fault{Kind: api.FFree, At: at}) {
 				t.Error(a.name, at, f)
 			}
+		}
+	}
+	for i := range 3 {
+		if _, f := accesses(m)[i].do(math.MaxUint64-3, 8); f.Kind != api.FFree {
+			t.Error("over the end", f)
 		}
 	}
 	for _, n := range []int{-1, math.MinInt} {

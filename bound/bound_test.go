@@ -87,6 +87,11 @@ func TestDirectoriesOutside(t *testing.T) {
 			t.Error(rva, e)
 		}
 	}
+	// What is left of the image would be a text, but is no whole row.
+	copy(b[whole-4:], "abc")
+	if l, e := bound.Parse(b, api.Dir{RVA: whole - 4}); e != api.ErrDir || l != nil {
+		t.Error(e)
+	}
 	// A row at the end, and no row of noughts behind it.
 	le.Put(b, whole-8, 4, 1)
 	copy(b[whole-4:], "\x00\x00\x00\x00")

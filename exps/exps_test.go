@@ -87,6 +87,10 @@ func TestParseOfAnEmptyDirectory(t *testing.T) {
 	if n != api.OK || e.Base != 65535 || len(e.Funcs) != 0 || len(e.Names) != 0 {
 		t.Error(e, n)
 	}
+	le.Put(b, 20+16, 4, 65536)
+	if _, n := exps.Parse(b, api.Dir{RVA: 20, Size: 40}); n != api.ErrExport {
+		t.Error("a base that is none", n)
+	}
 }
 
 func TestParseRefusesDirectories(t *testing.T) {
@@ -165,6 +169,35 @@ func TestManyFunctions(t *testing.T) {
 			if !ok || !is || f != g || f.RVA != 8000+i {
 				t.Fatal(n, i, f, g)
 			}
+		}
+	}
+}
+
+func TestTooManyOfEither(t *testing.T) {
+	for _, x := range []struct {
+		funcs, names uint64
+		want         api.Errno
+	}{{256, 1, api.OK}, {257, 1, api.ErrExport}, {256, 256, api.OK}, {256, 257, api.ErrExport}, {1, 257, api.ErrExport}} {
+		b, d := offer(257, func(i int) string { return strconv.Itoa(1000 + i) })
+		le.Put(b, d.RVA+20, 4, x.funcs)
+		le.Put(b, d.RVA+24, 4, x.names)
+		le.Put(b, 6000+2*256, 2, 0)
+		if _, e := exps.Parse(b, d); e != x.want {
+			t.Error(x, e)
+		}
+	}
+}
+
+func TestARowOfNamesAtTheEnd(t *testing.T) {
+	for n := 10; n <= 14; n++ {
+		b := image(edit{dir + 32, 4, uint64(whole - n)})
+		var row []byte
+		for _, v := range []uint64{texts, texts + 6, texts + 11} {
+			row = append(row, le.Bytes(v, 4)...)
+		}
+		copy(b[whole-n:], row)
+		if _, e := exps.Parse(b, api.Dir{RVA: dir, Size: size}); (e == api.OK) != (n >= 12) {
+			t.Error(n, e)
 		}
 	}
 }

@@ -135,6 +135,9 @@ func TestParseOfLittle(t *testing.T) {
 	if _, e := hdr.Parse(nil); e != api.ErrShort {
 		t.Error(e)
 	}
+	if _, e := hdr.Parse(make([]byte, 63)); e != api.ErrShort {
+		t.Error("the length is asked first", e)
+	}
 	if _, e := hdr.Parse(make([]byte, 64)); e != api.ErrMagic {
 		t.Error(e)
 	}
@@ -171,6 +174,33 @@ func TestParseAsksInOrder(t *testing.T) {
 		t.Error(e)
 	}
 	if _, e := hdr.Parse(image(edit{60, 4, 1}, edit{0, 1, 0})); e != api.ErrMagic {
+		t.Error(e)
+	}
+}
+
+func TestTheLeastPlaceOfTheHead(t *testing.T) {
+	// The head moves 64 bytes ahead, just behind what stands at the beginning.
+	b := image()
+	copy(b[64:], b[p:p+264+80])
+	for at, want := range map[uint64]api.Errno{64: api.OK, 60: api.ErrShort, 62: api.ErrShort} {
+		le.Put(b, 60, 4, at)
+		if _, e := hdr.Parse(b); e != want {
+			t.Error(at, e)
+		}
+	}
+}
+
+func TestTheGreatestHeaders(t *testing.T) {
+	for headers, want := range map[uint64]api.Errno{4095: api.OK, 4096: api.OK, 4097: api.ErrSect} {
+		b := append(image(edit{p + 84, 4, headers}), make([]byte, 8192)...)
+		if _, e := hdr.Parse(b); e != want {
+			t.Error(headers, e)
+		}
+	}
+}
+
+func TestNoSections(t *testing.T) {
+	if _, e := hdr.Parse(image(edit{p + 6, 2, 0}, edit{p + 80, 4, 4096}, edit{p + 40, 4, 0})); e != api.ErrSect {
 		t.Error(e)
 	}
 }

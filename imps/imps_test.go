@@ -109,7 +109,7 @@ func TestDirectoriesOutside(t *testing.T) {
 func TestParseErrors(t *testing.T) {
 	bad := []edit{
 		{dirA + 12, 4, whole}, {dirA + 12, 4, 0xFFFFFFFF}, {dirA + 12, 4, dllA + 5}, {dllA, 1, ' '}, {dllA + 1, 1, '/'}, {dllB, 1, 0},
-		{dirA, 4, whole - 7}, {dirA, 4, 0xFFFFFFFF}, {dirA + 16, 4, whole - 16}, {dirA + 16, 4, 0xFFFFFFFF}, {dirA + 36, 4, whole - 7}, {dirA + 36, 4, 0xFFFFFFFF},
+		{dirA, 4, whole - 7}, {dirA, 4, 0xFFFFFFFF}, {dirA + 16, 4, whole - 23}, {dirA + 16, 4, whole - 16}, {dirA + 16, 4, 0xFFFFFFFF}, {dirA + 36, 4, whole - 7}, {dirA + 36, 4, 0xFFFFFFFF},
 		{thunk, 8, 0x80000000}, {thunk, 8, 1 << 62}, {thunk, 8, 1<<63 | 65536}, {thunk + 8, 8, 1<<63 | 1<<62}, {iatB, 8, 1<<63 | 1<<31}, {thunk, 8, math.MaxUint64},
 		{thunk, 8, whole}, {thunk, 8, whole - 2}, {thunk, 8, 0x7FFFFFFF}, {hint1 + 2, 1, 0}, {hint1 + 2, 1, '#'}, {hint1 + 2, 1, ' '}, {hint2 + 2, 1, 0x7F},
 	}
@@ -128,7 +128,7 @@ func TestParseErrors(t *testing.T) {
 func TestDelaysErrors(t *testing.T) {
 	for _, x := range []edit{
 		{dirD, 4, 0}, {dirD, 4, 2}, {dirD, 4, 0xFFFFFFFF}, {dirD + 32, 4, 3}, {dirD + 8, 4, whole - 7}, {dirD + 8, 4, 0xFFFFFFFF}, {dirD + 4, 4, whole}, {dllB, 1, 0}, {dllA, 1, 0xFF},
-		{dirD + 12, 4, whole - 16}, {dirD + 16, 4, whole - 7}, {thunk, 8, 1<<63 | 65536}, {hint2 + 2, 1, 0},
+		{dirD + 12, 4, whole - 23}, {dirD + 12, 4, whole - 16}, {dirD + 16, 4, whole - 7}, {thunk, 8, 1<<63 | 65536}, {hint2 + 2, 1, 0},
 	} {
 		if l, e := imps.Delays(image(x), api.Dir{RVA: dirD}); e != api.ErrImport || l != nil {
 			t.Error(x, e, l)

@@ -30,18 +30,15 @@ func number(b []byte, at, n int) (uint64, bool) {
 	return v, true
 }
 
-// lies tells whether n bytes from at on are all in b; the subtraction keeps clear of an overflow of at and n.
+// lies tells whether n bytes from at on are all in b; n is small, at may be any number.
 func lies(b []byte, at, n int) bool {
-	return at >= 0 && n >= 0 && at <= len(b)-n
+	return at >= 0 && at <= len(b)-n
 }
 
 // Text reads the bytes of b from at on up to the first nought, of which there are at most most.
 func Text(b []byte, at, most int) (string, bool) {
 	if at < 0 || at >= len(b) {
 		return "", false
-	}
-	if most < 0 {
-		most = 0
 	}
 	for i, c := range b[at:] {
 		if c == 0 {

@@ -133,6 +133,9 @@ func TestPutThatDoesNotGoIn(t *testing.T) {
 			t.Error(x)
 		}
 	}
+	if long := make([]byte, 20); le.Put(long, 0, 9, 1) || le.Put(long, 0, 0, 1) || le.Put(long, 0, 16, 1) || !bytes.Equal(long, make([]byte, 20)) {
+		t.Error("lengths", long)
+	}
 	for _, at := range places {
 		if le.Put(b, at, 8, 0) || le.Put(b, at, 1, 0) {
 			t.Error(at)

@@ -214,6 +214,13 @@ func TestApplyPassesOverWhatIsNoSite(t *testing.T) {
 	if img[8] != 1 || img[12] != 1 {
 		t.Error("the last place", img)
 	}
+	for i := range b {
+		b[i] = byte(i + 1)
+	}
+	if img := rel.Apply(b, []api.Rel{{Kind: 3, RVA: 12}}, 0x01010101); !bytes.Equal(img[12:], []byte{14, 15, 16, 17}) || !bytes.Equal(img[:12], b[:12]) {
+		t.Error("the last four", img)
+	}
+	b = make([]byte, 16)
 	img = rel.Apply(b, nil, 5)
 	img[0] = 9
 	if b[0] != 0 {

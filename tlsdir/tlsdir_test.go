@@ -96,6 +96,12 @@ func TestDirectoriesOutside(t *testing.T) {
 			t.Error(rva, l, e)
 		}
 	}
+	// At base 0 an address of 0 would be a place.
+	for _, rva := range []int{whole - 39, whole, math.MaxInt, -1} {
+		if l, e := tlsdir.Parse(make([]byte, whole), api.Dir{RVA: rva}, 0); e != api.ErrTls || l.Is {
+			t.Error(rva, l, e)
+		}
+	}
 	if _, e := tlsdir.Parse(image(base, edit{whole - 24, 8, base}, edit{whole - 16, 8, 0}), api.Dir{RVA: whole - 40}, base); e != api.OK {
 		t.Error("the last place", e)
 	}

@@ -94,6 +94,14 @@ func TestTheProcessIsMadeByTheSecondRow(t *testing.T) {
 	}
 }
 
+func TestWhatTheProcessIsMadeWith(t *testing.T) {
+	c := console.New()
+	c.Do("trace")
+	if p := c.Life().Proc(); p.Fuel() != 10000 || p.Mem().Free() != 255 {
+		t.Error(p.Fuel(), p.Mem().Free())
+	}
+}
+
 func TestWithoutAPlan(t *testing.T) {
 	c := console.New()
 	for _, x := range []string{"code ret", "entry 0", "export s 0", "forward s a.f", "import d s", "rel 0", "data 00", "tls 0"} {

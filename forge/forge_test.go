@@ -318,6 +318,23 @@ func TestOkRefuses(t *testing.T) {
 			t.Error(i, "places")
 		}
 	}
+	none := small()
+	none.Code = nil
+	if forge.Ok(none) {
+		t.Error("no code")
+	}
+	call := small()
+	call.Calls = []int{0}
+	if forge.Ok(call) {
+		t.Error("a call without TLS")
+	}
+	for at, want := range map[int]bool{-1: false, 0: true, 12: true, 13: false} {
+		site := small()
+		site.Code, site.Rels = make([]byte, 20), []api.PRel{{Kind: 10, At: at}}
+		if forge.Ok(site) != want {
+			t.Error("a site", at)
+		}
+	}
 	if !forge.Ok(full()) || !forge.Ok(small()) || forge.Ok(api.Plan{}) {
 		t.Error("plain ones")
 	}

@@ -192,6 +192,17 @@ func TestDo(t *testing.T) {
 	}
 }
 
+func TestPeekAtAnEnd(t *testing.T) {
+	l := newLife(t)
+	last := l.Proc().Mem().Pages()
+	end := last[len(last)-1] + 4096
+	for at, want := range map[uint64]api.Errno{end - 8: api.OK, end - 7: api.ErrFault, end - 1: api.ErrFault, end: api.ErrFault} {
+		if r := l.Do(api.Act{Kind: api.XPeek, Arg: at}); r.E != want || want != api.OK && r.N != 0 {
+			t.Error(at, r)
+		}
+	}
+}
+
 func TestCallHandsItsArgument(t *testing.T) {
 	p := plans()["b"]
 	p.Code = code(api.Ins{Op: api.OMov, A: 1, B: 0}, api.Ins{Op: api.ORet})

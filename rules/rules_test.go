@@ -220,6 +220,45 @@ func TestStacksOfHandMadeModules(t *testing.T) {
 	}
 }
 
+// square is a module of n pages that may be read and written, and is all one section.
+func square(p *proc.Proc, name string, at uint64, n int) int {
+	id, _ := p.Table().Add(name, api.Pe{Head: api.Head{Size: n * 4096, Sects: []api.Sect{{VSize: n * 4096, Chars: 0xC0000000}}}})
+	p.Table().Handle(id, 1)
+	p.Table().SetBase(id, at)
+	return id
+}
+
+func TestPagesThatMeetInPart(t *testing.T) {
+	const at = 0x100000
+	for off := -5; off <= 5; off++ {
+		p := proc.New(nil, 40, 10)
+		p.Mem().Map(at-10*4096, 20, api.PR|api.PW)
+		square(p, "a", at, 3)
+		square(p, "b", uint64(at+off*4096), 2)
+		want := api.OK
+		if off > -2 && off < 3 {
+			want = api.ErrRule
+		}
+		if e := rules.Proc(p); e != want {
+			t.Error(off, e)
+		}
+	}
+	for off := -4; off <= 4; off++ {
+		p := proc.New(nil, 40, 10)
+		stack, _ := p.Stack(1)
+		p.Mem().Map(stack-6*4096, 6, api.PR|api.PW)
+		p.Mem().Map(stack+4096, 6, api.PR|api.PW)
+		square(p, "a", uint64(int(stack)+off*4096), 3)
+		want := api.OK
+		if off > -3 && off < 1 {
+			want = api.ErrRule
+		}
+		if e := rules.Proc(p); e != want {
+			t.Error("stack", off, e)
+		}
+	}
+}
+
 func TestPagesAndProtections(t *testing.T) {
 	whole := loaded(t)
 	for _, name := range []string{"a", "b", "c"} {

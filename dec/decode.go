@@ -16,8 +16,9 @@ const (
 // Decode tells the instruction that b begins with, and how many bytes it has.
 func Decode(b []byte) (api.Ins, int, api.Errno) {
 	e := api.ErrOp
-	for _, f := range all() {
-		x, n, fit := f.read(b)
+	l := all()
+	for i := range l {
+		x, n, fit := l[i].read(b)
 		switch fit {
 		case fitWhole:
 			return x, n, api.OK
@@ -29,7 +30,7 @@ func Decode(b []byte) (api.Ins, int, api.Errno) {
 }
 
 // read reads an instruction of this form.
-func (f form) read(b []byte) (api.Ins, int, int) {
+func (f *form) read(b []byte) (api.Ins, int, int) {
 	x := api.Ins{Op: f.op, Alu: f.alu, CC: f.cc}
 	at, fit := f.pre.read(b, &x)
 	if fit != fitWhole {
@@ -49,7 +50,7 @@ func (f form) read(b []byte) (api.Ins, int, int) {
 }
 
 // read reads the prefix, with the highest bits of registers.
-func (p prefix) read(b []byte, x *api.Ins) (int, int) {
+func (p *prefix) read(b []byte, x *api.Ins) (int, int) {
 	if p.base == 0 {
 		return 0, fitWhole
 	}
@@ -74,7 +75,7 @@ func (p prefix) read(b []byte, x *api.Ins) (int, int) {
 }
 
 // readCode reads the code and the byte behind it, with the lowest bits of registers.
-func (f form) readCode(b []byte, x *api.Ins) (int, int) {
+func (f *form) readCode(b []byte, x *api.Ins) (int, int) {
 	if len(b) == 0 {
 		return 0, fitShort
 	}
@@ -101,7 +102,7 @@ func (f form) readCode(b []byte, x *api.Ins) (int, int) {
 }
 
 // readRegs reads the byte that tells registers.
-func (f form) readRegs(v byte, x *api.Ins) bool {
+func (f *form) readRegs(v byte, x *api.Ins) bool {
 	if f.hasA() {
 		x.A += int(v >> 3 & lowBits)
 		v &^= lowBits << 3
@@ -114,7 +115,7 @@ func (f form) readRegs(v byte, x *api.Ins) bool {
 }
 
 // readTail reads the number at the end.
-func (f form) readTail(b []byte, x *api.Ins) {
+func (f *form) readTail(b []byte, x *api.Ins) {
 	switch f.tail {
 	case tailImm8:
 		x.Imm, _ = le.U64(b, 0)

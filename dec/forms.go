@@ -119,17 +119,17 @@ func of(x api.Ins) (form, bool) {
 }
 
 // hasA tells whether instructions of this form name A.
-func (f form) hasA() bool {
+func (f *form) hasA() bool {
 	return f.regs == regsCode || f.regs == regsBoth || f.regs == regsBase || f.regs == regsNext
 }
 
 // hasB tells whether they name B.
-func (f form) hasB() bool {
+func (f *form) hasB() bool {
 	return f.regs == regsExt || f.regs == regsBoth || f.regs == regsBase
 }
 
 // tailLen is how many bytes stand at the end.
-func (f form) tailLen() int {
+func (f *form) tailLen() int {
 	switch f.tail {
 	case tailImm8:
 		return 8

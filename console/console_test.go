@@ -34,7 +34,7 @@ func TestAProcessByLines(t *testing.T) {
 	n := strconv.Itoa
 	ask(t, script{
 		{"dll b 32", "ok"}, {"code movl 0 77", "ok"}, {"code ret", "ok"}, {"export f 1", "ok"}, {"export g 6", "ok"},
-		{"dll a 16", "ok"}, {"import B f", "ok"}, {"import b.dll g", "ok"}, {"forward to b.f", "ok"}, {"export own 0", "ok"}, {"data 0102030405060708fF", "ok"}, {"code mov 0 1", "ok"}, {"code addi 0 -1", "ok"}, {"code ret", "ok"}, {"export dec 1", "ok"},
+		{"dll a 16", "ok"}, {"import B f", "ok"}, {"import b.dll g", "ok"}, {"forward to b.f", "ok"}, {"export own 0", "ok"}, {"data 0102030405060708ff", "ok"}, {"code mov 0 1", "ok"}, {"code addi 0 -1", "ok"}, {"code ret", "ok"}, {"export dec 1", "ok"},
 		{"load gone", "error 15"}, {"load a", "ok " + n(base)}, {"load A.DLL", "ok " + n(base)}, {"query a own", "ok " + n(base+4096)}, {"query a to", "ok " + n(2*base+4097)}, {"query b g", "ok " + n(2*base+4102)},
 		{"query a none", "error 21"}, {"query c f", "error 15"}, {"peek " + n(base+8192), "ok 578437695752307201"}, {"peek " + n(base+8193), "ok 18376946001920656130"}, {"peek 0", "error 17"}, {"peek 2147483647", "error 17"},
 		{"call 1 a to 5", "ok 77"}, {"call 1 a dec 5", "ok 4"}, {"call 1 a dec 0", "ok 18446744073709551615"}, {"call 2 a dec 1", "error 24"}, {"call 1 a none 1", "error 21"}, {"call 1 z f 1", "error 15"},
@@ -116,7 +116,7 @@ func TestNoSuchLines(t *testing.T) {
 		"", " ", "x", "DLL a 1", "dll", "dll a", "dll a 1 2", "dll  a 1", "dll a  1", " dll a 1", "dll a 1 ", "dll a x", "dll a 01", "dll a -1", "dll a +1", "dll a 0x1", "dll a 2147483648", "dll a 99999999999999999999", "dll a 00",
 		"code", "code ", "code x", "code RET", "code  ret", "code ret ", "code movl 0", "code movl 16 1", "entry", "entry x", "entry 00", "entry 1 2", "entry -1", "entry 2147483648", "export s", "export s x", "export s 0 0", "export s 01",
 		"forward s", "forward s b.f x", "import d", "import d s t", "rel", "rel x", "rel 01", "data", "data 0", "data 000", "data xx", "data 0g", "data 00 00", "data +1", "data -1", "data 0x", "data _0", "tls", "tls x", "tls 1 1",
-		"load", "load a b", "load ", "free", "free a b", "query a", "query a b c", "start 1", "end", "end x", "end 1 1", "end -1", "end 01", "call 1 a f", "call 1 a f 1 1", "call x a f 1", "call 1 a f x", "call 1 a f -1", "call 1 a f 2147483648", "call 01 a f 1",
+		"load", "load a b", "free", "free a b", "query a", "query a b c", "start 1", "end", "end x", "end 1 1", "end -1", "end 01", "call 1 a f", "call 1 a f 1 1", "call x a f 1", "call 1 a f x", "call 1 a f -1", "call 1 a f 2147483648", "call 01 a f 1",
 		"peek", "peek x", "peek 01", "peek 2147483648", "peek 1 1", "trace 1", "trace ", "traces", "loa d",
 	} {
 		c := console.New()

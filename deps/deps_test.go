@@ -238,11 +238,12 @@ func TestStaysAndGoes(t *testing.T) {
 }
 
 func TestFilesAreNotChanged(t *testing.T) {
-	f := files(t, "a:")
-	x, _ := deps.File(f, "a")
-	before := string(f[0].B)
-	x.B[0] = 99
-	if string(f[0].B) != before {
-		t.Error("an answer is the file's own memory")
+	f := files(t, "a: b", "b:")
+	before := [2]string{string(f[0].B), string(f[1].B)}
+	l := table.New()
+	deps.Load(l, f, "a")
+	deps.File(f, "b")
+	if before != [2]string{string(f[0].B), string(f[1].B)} || f[0].Name != "a" || f[1].Name != "b" {
+		t.Error("what was handed in is changed")
 	}
 }

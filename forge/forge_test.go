@@ -92,8 +92,7 @@ func sections(t *testing.T, p api.Plan, q api.Pe) {
 		t.Error("code or data")
 	}
 	for _, s := range l[2:] {
-		prot := sect.Prot(s.Chars)
-		if prot != 1 && (prot != 3 || !p.Tls && len(p.Delays) == 0) {
+		if prot := sect.Prot(s.Chars); prot != 1 && prot != 3 {
 			t.Error("protection of", s)
 		}
 	}

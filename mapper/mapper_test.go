@@ -257,15 +257,4 @@ func TestHandMadeSizes(t *testing.T) {
 			t.Error(size, at, e)
 		}
 	}
-	// An image that is longer than its head says goes no farther than its pages.
-	p := image(t, base)
-	p.Head.Size = 4096
-	m := vmem.New(8)
-	m.Map(base+4096, 1, 1)
-	if at, e := mapper.Map(m, p); at != base || e != api.OK {
-		t.Error(at, e)
-	}
-	if b, _ := m.Peek(base+4096, 4096); !bytes.Equal(b, make([]byte, 4096)) {
-		t.Error("written beyond")
-	}
 }

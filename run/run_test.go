@@ -190,7 +190,7 @@ func TestErrors(t *testing.T) {
 }
 
 func TestTheStackMustBeThere(t *testing.T) {
-	for _, sp := range []uint64{0, 4, 8, stack, stack + 4, stack + 4096 + 4, code + 64, math.MaxUint64, 1 << 47} {
+	for _, sp := range []uint64{0, 4, 8, stack, stack + 4, stack + 4096 + 4, math.MaxUint64, 1 << 47} {
 		f := fuel(9)
 		if v, e := run.Call(memory(t, ret), code, sp, none(), f, take); v != 0 || e != api.ErrFault || f.Left() != 9 {
 			t.Errorf("%x: %d %v %d", sp, v, e, f.Left())

@@ -249,3 +249,41 @@ func TestAnswersAreApart(t *testing.T) {
 		t.Error(b)
 	}
 }
+
+// TestOkAndEncodeAreOfOneMind asks instructions that are and that are none, field by field.
+func TestOkAndEncodeAreOfOneMind(t *testing.T) {
+	regs := []int{-1, 0, 4, 7, 8, 12, 15, 16}
+	imms := []uint64{0, 127, 128, 255, 256, math.MaxUint32, 1 << 32, minus(128), minus(129), minus(1)}
+	disps := []int{0, 127, 128, -128, -129, math.MaxInt32, math.MaxInt32 + 1, math.MinInt32, math.MinInt32 - 1}
+	for op := -1; op <= api.OInt+1; op++ {
+		for alu := -1; alu <= api.AShr+1; alu++ {
+			for cc := -1; cc <= api.CNL+1; cc++ {
+				for _, a := range regs {
+					for _, b := range regs {
+						for _, v := range imms {
+							ofOneMind(t, api.Ins{Op: op, A: a, B: b, Alu: alu, CC: cc, Imm: v})
+						}
+						for _, v := range disps {
+							ofOneMind(t, api.Ins{Op: op, A: a, B: b, Alu: alu, CC: cc, Disp: v})
+						}
+					}
+				}
+			}
+		}
+	}
+}
+
+// ofOneMind holds Ok against Encode, and what is encoded against Decode.
+func ofOneMind(t *testing.T, x api.Ins) {
+	t.Helper()
+	b, ok := dec.Encode(x)
+	if dec.Ok(x) != ok || ok != (len(b) > 0) {
+		t.Fatalf("%+v: Ok %v, Encode %x, %v", x, dec.Ok(x), b, ok)
+	}
+	if !ok {
+		return
+	}
+	if y, n, e := dec.Decode(b); y != x || n != len(b) || e != api.OK {
+		t.Fatalf("%+v: %x is %+v, %d, %v", x, b, y, n, e)
+	}
+}

@@ -16,7 +16,7 @@ const (
 // Decode tells the instruction that b begins with, and how many bytes it has.
 func Decode(b []byte) (api.Ins, int, api.Errno) {
 	e := api.ErrOp
-	l := all()
+	l := makeForms()
 	for i := range l {
 		x, n, fit := l[i].read(b)
 		switch fit {
@@ -32,7 +32,7 @@ func Decode(b []byte) (api.Ins, int, api.Errno) {
 // read reads an instruction of this form.
 func (f *form) read(b []byte) (api.Ins, int, int) {
 	x := api.Ins{Op: f.op, Alu: f.alu, CC: f.cc}
-	at, fit := f.pre.read(b, &x)
+	at, fit := f.prefix().read(b, &x)
 	if fit != fitWhole {
 		return api.Ins{}, 0, fit
 	}
@@ -50,7 +50,7 @@ func (f *form) read(b []byte) (api.Ins, int, int) {
 }
 
 // read reads the prefix, with the highest bits of registers.
-func (p *prefix) read(b []byte, x *api.Ins) (int, int) {
+func (p prefix) read(b []byte, x *api.Ins) (int, int) {
 	if p.base == 0 {
 		return 0, fitWhole
 	}

@@ -13,6 +13,38 @@ type prefix struct {
 	spare bool
 }
 
+// Which prefix a form has.
+const (
+	preNone = iota
+	// preShort: needed for a high A alone.
+	preShort
+	// preLong: with bits of A and B.
+	preLong
+	// preLongA: with a bit of A alone.
+	preLongA
+	// preInCode: likewise, but that A stands in the code, and has the other bit.
+	preInCode
+	// preLongB: with a bit of B alone.
+	preLongB
+)
+
+// prefix tells what the form's prefix is made of.
+func (f *form) prefix() prefix {
+	switch f.pre {
+	case preShort:
+		return prefix{base: 0x40, bitA: 1, spare: true}
+	case preLong:
+		return prefix{base: 0x48, bitA: 4, bitB: 1}
+	case preLongA:
+		return prefix{base: 0x48, bitA: 4}
+	case preInCode:
+		return prefix{base: 0x48, bitA: 1}
+	case preLongB:
+		return prefix{base: 0x48, bitB: 1}
+	}
+	return prefix{}
+}
+
 // How registers stand behind the prefix.
 const (
 	// regsNone: the code alone.
@@ -45,12 +77,15 @@ const (
 // form is one form of instructions.
 type form struct {
 	op, alu, cc int
-	pre         prefix
+	pre         int
 	code        byte
 	regs        int
 	ext         byte
 	tail        int
 }
+
+// formCount is how many forms there are.
+const formCount = 40
 
 var (
 	formsOnce sync.Once
@@ -59,63 +94,57 @@ var (
 
 // all tells the forms there are, which are made at the first call.
 func all() []form {
-	formsOnce.Do(func() { forms = makeForms() })
+	formsOnce.Do(func() {
+		l := makeForms()
+		forms = l[:]
+	})
 	return forms
 }
 
-// makeForms lays the table of forms.
-func makeForms() []form {
-	none := prefix{}
-	short := prefix{base: 0x40, bitA: 1, spare: true}
-	long := prefix{base: 0x48, bitA: 4, bitB: 1}
-	longA := prefix{base: 0x48, bitA: 4}
-	inCode := prefix{base: 0x48, bitA: 1}
-	longB := prefix{base: 0x48, bitB: 1}
-	l := []form{
-		{op: api.ONop, pre: none, code: 0x90},
-		{op: api.ORet, pre: none, code: 0xC3},
-		{op: api.OPush, pre: short, code: 0x50, regs: regsCode},
-		{op: api.OPop, pre: short, code: 0x58, regs: regsCode},
-		{op: api.OMovI, pre: inCode, code: 0xB8, regs: regsCode, tail: tailImm8},
-		{op: api.OMovL, pre: short, code: 0xB8, regs: regsCode, tail: tailImm4},
-		{op: api.OMov, pre: long, code: 0x89, regs: regsBoth, ext: 0xC0},
-		{op: api.OLoad, pre: long, code: 0x8B, regs: regsBase, ext: 0x80, tail: tailDisp4},
-		{op: api.OStore, pre: long, code: 0x89, regs: regsBase, ext: 0x80, tail: tailDisp4},
-		{op: api.OLoadR, pre: longA, code: 0x8B, regs: regsNext, ext: 5, tail: tailDisp4},
-		{op: api.OStoreR, pre: longA, code: 0x89, regs: regsNext, ext: 5, tail: tailDisp4},
-		{op: api.OLea, pre: longA, code: 0x8D, regs: regsNext, ext: 5, tail: tailDisp4},
-		{op: api.OAluI, alu: api.AAdd, pre: longB, code: 0x83, regs: regsExt, ext: 0xC0, tail: tailSigned1},
-		{op: api.OAluI, alu: api.ASub, pre: longB, code: 0x83, regs: regsExt, ext: 0xE8, tail: tailSigned1},
-		{op: api.OAluI, alu: api.ACmp, pre: longB, code: 0x83, regs: regsExt, ext: 0xF8, tail: tailSigned1},
-		{op: api.OOne, alu: api.AInc, pre: longB, code: 0xFF, regs: regsExt, ext: 0xC0},
-		{op: api.OOne, alu: api.ADec, pre: longB, code: 0xFF, regs: regsExt, ext: 0xC8},
-		{op: api.OShift, alu: api.AShl, pre: longB, code: 0xC1, regs: regsExt, ext: 0xE0, tail: tailImm1},
-		{op: api.OShift, alu: api.AShr, pre: longB, code: 0xC1, regs: regsExt, ext: 0xE8, tail: tailImm1},
-		{op: api.OCall, pre: none, code: 0xE8, tail: tailDisp4},
-		{op: api.OJmp, pre: none, code: 0xE9, tail: tailDisp4},
-		{op: api.OJmpS, pre: none, code: 0xEB, tail: tailDisp1},
-		{op: api.OCallR, pre: none, code: 0xFF, regs: regsFixed, ext: 0x15, tail: tailDisp4},
-		{op: api.OJmpR, pre: none, code: 0xFF, regs: regsFixed, ext: 0x25, tail: tailDisp4},
-		{op: api.OInt, pre: none, code: 0xCD, tail: tailImm1},
+// makeForms lays the table of forms. It is a value of constants, so that a call which lays its own has little to do.
+func makeForms() [formCount]form {
+	return [formCount]form{
+		{op: api.ONop, code: 0x90},
+		{op: api.ORet, code: 0xC3},
+		{op: api.OPush, pre: preShort, code: 0x50, regs: regsCode},
+		{op: api.OPop, pre: preShort, code: 0x58, regs: regsCode},
+		{op: api.OMovI, pre: preInCode, code: 0xB8, regs: regsCode, tail: tailImm8},
+		{op: api.OMovL, pre: preShort, code: 0xB8, regs: regsCode, tail: tailImm4},
+		{op: api.OAlu, alu: api.AAdd, pre: preLong, code: 0x01, regs: regsBoth, ext: 0xC0},
+		{op: api.OAlu, alu: api.ASub, pre: preLong, code: 0x29, regs: regsBoth, ext: 0xC0},
+		{op: api.OAlu, alu: api.AAnd, pre: preLong, code: 0x21, regs: regsBoth, ext: 0xC0},
+		{op: api.OAlu, alu: api.AOr, pre: preLong, code: 0x09, regs: regsBoth, ext: 0xC0},
+		{op: api.OAlu, alu: api.AXor, pre: preLong, code: 0x31, regs: regsBoth, ext: 0xC0},
+		{op: api.OAlu, alu: api.ACmp, pre: preLong, code: 0x39, regs: regsBoth, ext: 0xC0},
+		{op: api.OAlu, alu: api.ATest, pre: preLong, code: 0x85, regs: regsBoth, ext: 0xC0},
+		{op: api.OMov, pre: preLong, code: 0x89, regs: regsBoth, ext: 0xC0},
+		{op: api.OLoad, pre: preLong, code: 0x8B, regs: regsBase, ext: 0x80, tail: tailDisp4},
+		{op: api.OStore, pre: preLong, code: 0x89, regs: regsBase, ext: 0x80, tail: tailDisp4},
+		{op: api.OLoadR, pre: preLongA, code: 0x8B, regs: regsNext, ext: 0x05, tail: tailDisp4},
+		{op: api.OStoreR, pre: preLongA, code: 0x89, regs: regsNext, ext: 0x05, tail: tailDisp4},
+		{op: api.OLea, pre: preLongA, code: 0x8D, regs: regsNext, ext: 0x05, tail: tailDisp4},
+		{op: api.OAluI, alu: api.AAdd, pre: preLongB, code: 0x83, regs: regsExt, ext: 0xC0, tail: tailSigned1},
+		{op: api.OAluI, alu: api.ASub, pre: preLongB, code: 0x83, regs: regsExt, ext: 0xE8, tail: tailSigned1},
+		{op: api.OAluI, alu: api.ACmp, pre: preLongB, code: 0x83, regs: regsExt, ext: 0xF8, tail: tailSigned1},
+		{op: api.OOne, alu: api.AInc, pre: preLongB, code: 0xFF, regs: regsExt, ext: 0xC0},
+		{op: api.OOne, alu: api.ADec, pre: preLongB, code: 0xFF, regs: regsExt, ext: 0xC8},
+		{op: api.OShift, alu: api.AShl, pre: preLongB, code: 0xC1, regs: regsExt, ext: 0xE0, tail: tailImm1},
+		{op: api.OShift, alu: api.AShr, pre: preLongB, code: 0xC1, regs: regsExt, ext: 0xE8, tail: tailImm1},
+		{op: api.OCall, code: 0xE8, tail: tailDisp4},
+		{op: api.OJmp, code: 0xE9, tail: tailDisp4},
+		{op: api.OJmpS, code: 0xEB, tail: tailDisp1},
+		{op: api.OJcc, cc: api.CB, code: 0x70 + api.CB, tail: tailDisp1},
+		{op: api.OJcc, cc: api.CNB, code: 0x70 + api.CNB, tail: tailDisp1},
+		{op: api.OJcc, cc: api.CE, code: 0x70 + api.CE, tail: tailDisp1},
+		{op: api.OJcc, cc: api.CNE, code: 0x70 + api.CNE, tail: tailDisp1},
+		{op: api.OJcc, cc: api.CS, code: 0x70 + api.CS, tail: tailDisp1},
+		{op: api.OJcc, cc: api.CNS, code: 0x70 + api.CNS, tail: tailDisp1},
+		{op: api.OJcc, cc: api.CL, code: 0x70 + api.CL, tail: tailDisp1},
+		{op: api.OJcc, cc: api.CNL, code: 0x70 + api.CNL, tail: tailDisp1},
+		{op: api.OCallR, code: 0xFF, regs: regsFixed, ext: 0x15, tail: tailDisp4},
+		{op: api.OJmpR, code: 0xFF, regs: regsFixed, ext: 0x25, tail: tailDisp4},
+		{op: api.OInt, code: 0xCD, tail: tailImm1},
 	}
-	codes := []byte{0x01, 0x29, 0x21, 0x09, 0x31, 0x39, 0x85}
-	for i, op := range []int{api.AAdd, api.ASub, api.AAnd, api.AOr, api.AXor, api.ACmp, api.ATest} {
-		l = append(l, form{op: api.OAlu, alu: op, pre: long, code: codes[i], regs: regsBoth, ext: 0xC0})
-	}
-	for _, cc := range []int{api.CB, api.CNB, api.CE, api.CNE, api.CS, api.CNS, api.CL, api.CNL} {
-		l = append(l, form{op: api.OJcc, cc: cc, code: 0x70 + byte(cc), tail: tailDisp1})
-	}
-	return l
-}
-
-// of finds the form that x would have; false, if there is none.
-func of(x api.Ins) (form, bool) {
-	for _, f := range all() {
-		if f.op == x.Op && f.alu == x.Alu && f.cc == x.CC {
-			return f, true
-		}
-	}
-	return form{}, false
 }
 
 // hasA tells whether instructions of this form name A.
